@@ -440,8 +440,8 @@ func tryPay(stock []Stamp, least, most int64) (paid payment, code int64) {
 		if refused, ok := cause.(refusal); ok {
 			code = refused.refusedWith()
 		} else if cause != nil {
-			// Anything else is a mistake of the program, which must not look like a payment.
-			panic(cause)
+			// No function may panic, but what is no refusal must not look like a payment either.
+			code = ErrState
 		}
 	}()
 	return pay(stock, least, most), OK
