@@ -88,6 +88,11 @@ func spoil(results []any) {
 			for i := range list {
 				list[i] = impl.Stamp{Value: -99, Have: -99}
 			}
+		case []impl.Box:
+			list = list[:cap(list)]
+			for i := range list {
+				list[i] = impl.Box{A: -99, B: -99, C: -99}
+			}
 		}
 	}
 }
