@@ -93,6 +93,12 @@ func spoil(results []any) {
 			for i := range list {
 				list[i] = impl.Box{A: -99, B: -99, C: -99}
 			}
+		case impl.Table:
+			spoilNumbers(list.Steps)
+			for _, row := range list.Prices {
+				spoilNumbers(row)
+			}
+			clear(list.Prices[:cap(list.Prices)])
 		}
 	}
 }
