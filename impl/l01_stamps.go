@@ -613,31 +613,42 @@ func StockText(stock []Stamp) string {
 
 // ReadStock returns the stock with the given text.
 func ReadStock(text string) ([]Stamp, int64) {
+	return readWords(text, readStamp, StockText)
+}
+
+// readWords returns the list whose text, as it is told, is the given one, reading it word by word; ErrSyntax if there is none.
+func readWords[E any](text string, read func(word string) (E, bool), tell func(list []E) string) ([]E, int64) {
 	if text == "" {
 		return nil, OK
 	}
-	var stock []Stamp
+	var list []E
 	for _, word := range strings.Split(text, " ") {
-		stamp, ok := readStamp(word)
+		one, ok := read(word)
 		if !ok {
 			return nil, ErrSyntax
 		}
-		stock = append(stock, stamp)
+		list = append(list, one)
 	}
-	// A number can be written in several ways, but only one of them is in the text of a stock.
-	if StockText(stock) != text {
+	// A number can be written in several ways, but only one of them is in a text that is told.
+	if tell(list) != text {
 		return nil, ErrSyntax
 	}
-	return stock, OK
+	return list, OK
 }
 
 // readStamp returns the stamp that a word tells, and whether there is one.
 func readStamp(word string) (Stamp, bool) {
-	value, have, _ := strings.Cut(word, "x")
-	v, errValue := strconv.ParseInt(value, 10, 16)
-	h, errHave := strconv.ParseInt(have, 10, 16)
-	if errValue != nil || errHave != nil {
-		return Stamp{}, false
+	value, have, ok := readPair(word, "x")
+	return Stamp{Value: value, Have: have}, ok
+}
+
+// readPair returns the two numbers of a word, with a mark between them, and whether there are such numbers.
+func readPair(word, mark string) (int16, int16, bool) {
+	one, other, _ := strings.Cut(word, mark)
+	first, errFirst := strconv.ParseInt(one, 10, 16)
+	second, errSecond := strconv.ParseInt(other, 10, 16)
+	if errFirst != nil || errSecond != nil {
+		return 0, 0, false
 	}
-	return Stamp{Value: int16(v), Have: int16(h)}, true
+	return int16(first), int16(second), true
 }

@@ -93,6 +93,21 @@ func spoil(results []any) {
 			for i := range list {
 				list[i] = impl.Box{A: -99, B: -99, C: -99}
 			}
+		case []impl.Parcel:
+			list = list[:cap(list)]
+			for i := range list {
+				list[i] = impl.Parcel{Stop: -99, Weight: -99}
+			}
+		case []impl.Shift:
+			list = list[:cap(list)]
+			for i := range list {
+				list[i] = impl.Shift{From: -99, To: -99}
+			}
+		case [][]int64:
+			for _, bag := range list {
+				spoil([]any{bag})
+			}
+			clear(list[:cap(list)])
 		case impl.Table:
 			spoilNumbers(list.Steps)
 			for _, row := range list.Prices {
