@@ -103,6 +103,11 @@ func spoil(results []any) {
 			for i := range list {
 				list[i] = impl.Shift{From: -99, To: -99}
 			}
+		case []impl.Line:
+			list = list[:cap(list)]
+			for i := range list {
+				list[i] = impl.Line{Class: -99, Count: -99, Value: -99, Grams: -99}
+			}
 		case [][]int64:
 			for _, bag := range list {
 				spoil([]any{bag})
