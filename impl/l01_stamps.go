@@ -49,7 +49,7 @@ type payment struct {
 	amount int64
 }
 
-// refusal is what a payment that cannot be made panics with.
+// refusal is what a payment or a refund that cannot be made panics with.
 type refusal interface {
 	refusedWith() int64
 }
@@ -434,17 +434,22 @@ func pay(stock []Stamp, least, most int64) payment {
 }
 
 // tryPay pays as pay does, and returns the code of a refusal.
-func tryPay(stock []Stamp, least, most int64) (paid payment, code int64) {
+func tryPay(stock []Stamp, least, most int64) (payment, int64) {
+	return try(func() payment { return pay(stock, least, most) })
+}
+
+// try returns what a function returns, or the code of the refusal with which it panics.
+func try[R any](act func() R) (result R, code int64) {
 	defer func() {
 		cause := recover()
 		if refused, ok := cause.(refusal); ok {
 			code = refused.refusedWith()
 		} else if cause != nil {
-			// No function may panic, but what is no refusal must not look like a payment either.
+			// No function may panic, but what is no refusal must not look like a result either.
 			code = ErrState
 		}
 	}()
-	return pay(stock, least, most), OK
+	return act(), OK
 }
 
 // checkStock returns the first error of a stock and a postage.
@@ -639,16 +644,14 @@ func readWords[E any](text string, read func(word string) (E, bool), tell func(l
 // readStamp returns the stamp that a word tells, and whether there is one.
 func readStamp(word string) (Stamp, bool) {
 	value, have, ok := readPair(word, "x")
-	return Stamp{Value: value, Have: have}, ok
+	return Stamp{Value: int16(value), Have: int16(have)}, ok
 }
 
 // readPair returns the two numbers of a word, with a mark between them, and whether there are such numbers.
-func readPair(word, mark string) (int16, int16, bool) {
+// A number may be too great for the field for which it is read; the word that is told of this field is then another one.
+func readPair(word, mark string) (int64, int64, bool) {
 	one, other, _ := strings.Cut(word, mark)
-	first, errFirst := strconv.ParseInt(one, 10, 16)
-	second, errSecond := strconv.ParseInt(other, 10, 16)
-	if errFirst != nil || errSecond != nil {
-		return 0, 0, false
-	}
-	return int16(first), int16(second), true
+	first, errFirst := strconv.ParseInt(one, 10, 64)
+	second, errSecond := strconv.ParseInt(other, 10, 64)
+	return first, second, errFirst == nil && errSecond == nil
 }

@@ -108,6 +108,16 @@ func spoil(results []any) {
 			for i := range list {
 				list[i] = impl.Line{Class: -99, Count: -99, Value: -99, Grams: -99}
 			}
+		case []impl.Match:
+			list = list[:cap(list)]
+			for i := range list {
+				list[i] = impl.Match{Return: -99, Order: -99, Number: -99}
+			}
+		case []impl.Voucher:
+			list = list[:cap(list)]
+			for i := range list {
+				list[i] = impl.Voucher{Amount: -99, Until: -99}
+			}
 		case [][]int64:
 			for _, bag := range list {
 				spoil([]any{bag})
