@@ -2,9 +2,11 @@ package tests
 
 import (
 	"fmt"
+	"runtime"
 	"slices"
 	"strings"
 	"testing"
+	"time"
 )
 
 const (
@@ -37,6 +39,37 @@ func roomy[E any](list []E, spare E) []E {
 // whole returns a slice with all its room.
 func whole[E any](list []E) []E {
 	return slices.Clone(list[:cap(list)])
+}
+
+// checkPureCall checks that a call modifies no argument, returns no memory of one, and returns the same again.
+func checkPureCall[A any](t *testing.T, name string, call func(A) []any, a A, wholeOf func(A) string) {
+	t.Helper()
+	before := wholeOf(a)
+	first := call(a)
+	text := show(first...)
+	if wholeOf(a) != before {
+		t.Errorf("%s modifies an argument", name)
+	}
+	spoil(first)
+	again := show(call(a)...)
+	if wholeOf(a) != before {
+		t.Errorf("%s returns memory of an argument", name)
+	}
+	if again != text {
+		t.Errorf("%s returns %s and then %s", name, text, again)
+	}
+}
+
+// checkNothingRuns checks that no more goroutines are left than there were before.
+func checkNothingRuns(t *testing.T, before int) {
+	t.Helper()
+	// What has sent its last result may need a moment to be gone.
+	for tries := 0; runtime.NumGoroutine() > before; tries++ {
+		if tries == 200 {
+			t.Fatalf("%d goroutines are left", runtime.NumGoroutine()-before)
+		}
+		time.Sleep(10 * time.Millisecond)
+	}
 }
 
 // sets calls visit with each strictly increasing list of 1 to size numbers from 1 to most.

@@ -87,28 +87,10 @@ func TestPricesArePure(t *testing.T) {
 			for i, list := range someItemLists {
 				more := [][]int64{{0, 1, 0}, {1, 3, 7}, list}[i%3]
 				for _, pair := range somePricePairs {
-					checkPricesPure(t, name, call, priceArgs{roomyTable(table), roomy(list, 44), roomy(more, 33), pair[0], pair[1]})
+					checkPureCall(t, name, call, priceArgs{roomyTable(table), roomy(list, 44), roomy(more, 33), pair[0], pair[1]}, wholeArgs)
 				}
 			}
 		}
-	}
-}
-
-func checkPricesPure(t *testing.T, name string, call func(priceArgs) []any, a priceArgs) {
-	t.Helper()
-	before := wholeArgs(a)
-	first := call(a)
-	text := show(first...)
-	if wholeArgs(a) != before {
-		t.Errorf("%s modifies an argument", name)
-	}
-	spoil(first)
-	again := show(call(a)...)
-	if wholeArgs(a) != before {
-		t.Errorf("%s returns memory of an argument", name)
-	}
-	if again != text {
-		t.Errorf("%s returns %s and then %s", name, text, again)
 	}
 }
 

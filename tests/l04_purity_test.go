@@ -94,27 +94,9 @@ func TestRoundsArePure(t *testing.T) {
 	for name, call := range roundCalls {
 		for _, a := range someRounds(t) {
 			for _, n := range []int64{leastInt, -1, 0, 1, 2, 5, 8, 10, 11, 100, 101, 1000, 20001, mostInt} {
-				checkRoundsPure(t, name, call, roundArgs{roomy(a.list, impl.Parcel{Stop: 7, Weight: 7}), roomy(a.load, 44), roomy(a.visit, 33), roomyBags(a.bags), roomy(a.shifts, impl.Shift{From: 7, To: 7}), n})
+				checkPureCall(t, name, call, roundArgs{roomy(a.list, impl.Parcel{Stop: 7, Weight: 7}), roomy(a.load, 44), roomy(a.visit, 33), roomyBags(a.bags), roomy(a.shifts, impl.Shift{From: 7, To: 7}), n}, wholeRound)
 			}
 		}
-	}
-}
-
-func checkRoundsPure(t *testing.T, name string, call func(roundArgs) []any, a roundArgs) {
-	t.Helper()
-	before := wholeRound(a)
-	first := call(a)
-	text := show(first...)
-	if wholeRound(a) != before {
-		t.Errorf("%s modifies an argument", name)
-	}
-	spoil(first)
-	again := show(call(a)...)
-	if wholeRound(a) != before {
-		t.Errorf("%s returns memory of an argument", name)
-	}
-	if again != text {
-		t.Errorf("%s returns %s and then %s", name, text, again)
 	}
 }
 

@@ -5,7 +5,6 @@ import (
 	"slices"
 	"sync"
 	"testing"
-	"time"
 
 	"loop.example/g01366/impl"
 )
@@ -75,28 +74,10 @@ func TestCustomsArePure(t *testing.T) {
 		for _, a := range someCustoms() {
 			for _, m := range []int64{leastInt, -1, 0, 10, 300, 1000000, 1000001, mostInt} {
 				for _, n := range []int64{leastInt, -1, 0, 1, 2, 3, 4, 1000, mostInt} {
-					checkCustomsPure(t, name, call, customsArgs{roomy(a.list, impl.Class{Num: 7, Den: 7}), roomy(a.form, impl.Line{Count: 7}), m, n})
+					checkPureCall(t, name, call, customsArgs{roomy(a.list, impl.Class{Num: 7, Den: 7}), roomy(a.form, impl.Line{Count: 7}), m, n}, wholeCustoms)
 				}
 			}
 		}
-	}
-}
-
-func checkCustomsPure(t *testing.T, name string, call func(customsArgs) []any, a customsArgs) {
-	t.Helper()
-	before := wholeCustoms(a)
-	first := call(a)
-	text := show(first...)
-	if wholeCustoms(a) != before {
-		t.Errorf("%s modifies an argument", name)
-	}
-	spoil(first)
-	again := show(call(a)...)
-	if wholeCustoms(a) != before {
-		t.Errorf("%s returns memory of an argument", name)
-	}
-	if again != text {
-		t.Errorf("%s returns %s and then %s", name, text, again)
 	}
 }
 
@@ -129,13 +110,7 @@ func TestCustomsLeaveNothingRunning(t *testing.T) {
 			}
 		}
 	}
-	// What has sent its last number may need a moment to be gone.
-	for tries := 0; runtime.NumGoroutine() > before; tries++ {
-		if tries == 200 {
-			t.Fatalf("%d goroutines are left", runtime.NumGoroutine()-before)
-		}
-		time.Sleep(10 * time.Millisecond)
-	}
+	checkNothingRuns(t, before)
 }
 
 // A nil slice and an empty one are equivalent.

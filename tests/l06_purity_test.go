@@ -5,7 +5,6 @@ import (
 	"slices"
 	"sync"
 	"testing"
-	"time"
 
 	"loop.example/g01366/impl"
 )
@@ -81,28 +80,10 @@ func TestReturnsArePure(t *testing.T) {
 			for _, m := range []int64{leastInt, -1, 0, 1, 8, 9, 40, 1000000, 1000001, mostInt} {
 				for _, n := range []int64{leastInt, -1, 0, 1, 3, 11, 12, 1000, 1001, mostInt} {
 					a.m, a.n = m, n
-					checkReturnsPure(t, name, call, a)
+					checkPureCall(t, name, call, a, wholeReturns)
 				}
 			}
 		}
-	}
-}
-
-func checkReturnsPure(t *testing.T, name string, call func(returnArgs) []any, a returnArgs) {
-	t.Helper()
-	before := wholeReturns(a)
-	first := call(a)
-	text := show(first...)
-	if wholeReturns(a) != before {
-		t.Errorf("%s modifies an argument", name)
-	}
-	spoil(first)
-	again := show(call(a)...)
-	if wholeReturns(a) != before {
-		t.Errorf("%s returns memory of an argument", name)
-	}
-	if again != text {
-		t.Errorf("%s returns %s and then %s", name, text, again)
 	}
 }
 
@@ -153,13 +134,7 @@ func TestReturnsLeaveNothingRunning(t *testing.T) {
 			}
 		}
 	}
-	// What has sent its last match may need a moment to be gone.
-	for tries := 0; runtime.NumGoroutine() > before; tries++ {
-		if tries == 200 {
-			t.Fatalf("%d goroutines are left", runtime.NumGoroutine()-before)
-		}
-		time.Sleep(10 * time.Millisecond)
-	}
+	checkNothingRuns(t, before)
 }
 
 // A nil slice and an empty one are equivalent.
