@@ -611,7 +611,7 @@ func StockText(stock []Stamp) string {
 	}
 	words := make([]string, len(stock))
 	for i, stamp := range stock {
-		words[i] = strconv.Itoa(int(stamp.Value)) + "x" + strconv.Itoa(int(stamp.Have))
+		words[i] = tellPair(int64(stamp.Value), "x", int64(stamp.Have))
 	}
 	return strings.Join(words, " ")
 }
@@ -654,4 +654,9 @@ func readPair(word, mark string) (int64, int64, bool) {
 	first, errFirst := strconv.ParseInt(one, 10, 64)
 	second, errSecond := strconv.ParseInt(other, 10, 64)
 	return first, second, errFirst == nil && errSecond == nil
+}
+
+// tellPair returns the word of two numbers with a mark between them.
+func tellPair(first int64, mark string, second int64) string {
+	return strconv.FormatInt(first, 10) + mark + strconv.FormatInt(second, 10)
 }

@@ -5,6 +5,7 @@ import (
 	"runtime"
 	"slices"
 	"strings"
+	"sync"
 	"testing"
 	"time"
 )
@@ -58,6 +59,21 @@ func checkPureCall[A any](t *testing.T, name string, call func(A) []any, a A, wh
 	if again != text {
 		t.Errorf("%s returns %s and then %s", name, text, again)
 	}
+}
+
+// checkAtTheSameTime checks that a call returns the same if others are made at the same time.
+func checkAtTheSameTime[A any](t *testing.T, name string, call func(A) []any, a A) {
+	t.Helper()
+	want := show(call(a)...)
+	var group sync.WaitGroup
+	for range 8 {
+		group.Go(func() {
+			if got := show(call(a)...); got != want {
+				t.Errorf("%s returns %s and then %s", name, want, got)
+			}
+		})
+	}
+	group.Wait()
 }
 
 // checkNothingRuns checks that no more goroutines are left than there were before.

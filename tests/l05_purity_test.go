@@ -3,7 +3,6 @@ package tests
 import (
 	"runtime"
 	"slices"
-	"sync"
 	"testing"
 
 	"loop.example/g01366/impl"
@@ -85,16 +84,7 @@ func TestCustomsArePure(t *testing.T) {
 func TestCustomsAtTheSameTime(t *testing.T) {
 	a := customsArgs{list: exampleClasses(), form: slices.Repeat([]impl.Line{{Class: 1, Count: 2, Value: 10, Grams: 5}, {Count: 1, Value: 250}}, 3), m: 300, n: impl.RoNear}
 	for name, call := range customsCalls {
-		want := show(call(a)...)
-		var group sync.WaitGroup
-		for range 8 {
-			group.Go(func() {
-				if got := show(call(a)...); got != want {
-					t.Errorf("%s returns %s and then %s", name, want, got)
-				}
-			})
-		}
-		group.Wait()
+		checkAtTheSameTime(t, name, call, a)
 	}
 }
 

@@ -3,7 +3,6 @@ package tests
 import (
 	"runtime"
 	"slices"
-	"sync"
 	"testing"
 
 	"loop.example/g01366/impl"
@@ -107,16 +106,7 @@ func TestReturnsAtTheSameTime(t *testing.T) {
 	for _, a := range someReturns(t)[:5] {
 		a.m, a.n = 8, 10
 		for name, call := range returnCalls {
-			want := show(call(a)...)
-			var group sync.WaitGroup
-			for range 8 {
-				group.Go(func() {
-					if got := show(call(a)...); got != want {
-						t.Errorf("%s returns %s and then %s", name, want, got)
-					}
-				})
-			}
-			group.Wait()
+			checkAtTheSameTime(t, name, call, a)
 		}
 	}
 }
