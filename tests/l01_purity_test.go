@@ -118,6 +118,21 @@ func spoil(results []any) {
 			for i := range list {
 				list[i] = impl.Voucher{Amount: -99, Until: -99}
 			}
+		case []impl.Scan:
+			list = list[:cap(list)]
+			for i := range list {
+				list[i] = impl.Scan{Station: -99, Hour: -99}
+			}
+		case [][2]int64:
+			list = list[:cap(list)]
+			for i := range list {
+				list[i] = [2]int64{-99, -99}
+			}
+		case impl.Net:
+			lanes := list.Lanes[:cap(list.Lanes)]
+			for i := range lanes {
+				lanes[i] = impl.Lane{From: -99, To: -99, Least: -99, Most: -99}
+			}
 		case [][]int64:
 			for _, bag := range list {
 				spoil([]any{bag})
